@@ -1,0 +1,1 @@
+"""Latelands: code whose results land late, and where the world may break in."""

@@ -1,0 +1,248 @@
+"""What DOC.md says, played out plainly and slowly, to hold the program against it.
+
+Nothing that judges here asks the package for more than the rows, groups and kinds of a code.
+"""
+
+import random
+
+from latelands.codes import Code
+from latelands.errors import InvalidCode
+from latelands.kinds import Copy, Give, Jump, Make
+from latelands.machines import Machine
+from latelands.rows import is_row
+
+
+def jump_in(row):
+    for operation in row:
+        if operation[3] is not None:
+            return operation
+    return None
+
+
+def next_rows(code, row):
+    """[7]: the next rows of a row, found from the jump whose last late row it is."""
+    source = row - code.machine.late
+    jump = jump_in(code.rows[source]) if source >= 0 else None
+    if jump is None:
+        return [row + 1]
+    return sorted({jump[3], row + 1} if jump[2] else {jump[3]})
+
+
+def ways_of(code, rows):
+    """All ways with this number of rows, ascending."""
+    found = [()]
+    for _ in range(rows):
+        found = [way + (row,) for way in found
+                 for row in (next_rows(code, way[-1]) if way else [0]) if row < len(code.rows)]
+    return found
+
+
+def ways_up_to(code, rows):
+    return [way for many in range(rows + 1) for way in ways_of(code, many)]
+
+
+def reach(code):
+    return max([delay(code, operation) for row in code.rows for operation in row if operation[1]], default=1)
+
+
+def delay(code, operation):
+    return [kind.delay for kind in code.machine.kinds if kind.name == operation[0]][0]
+
+
+def family(code, operation):
+    return [kind.family for kind in code.machine.kinds if kind.name == operation[0]][0]
+
+
+def points_of_way(code, way):
+    """[12]: the points to which a way leads."""
+    last = way[-reach(code):]
+    return [last + (row,) for row in (next_rows(code, way[-1]) if way else [0])]
+
+
+def points(code, rows):
+    """The points to which the ways of at most so many rows lead."""
+    found = {point for way in ways_up_to(code, rows) for point in points_of_way(code, way)}
+    return sorted(found, key=lambda point: (len(point), point))
+
+
+def clashes(code, way):
+    """The registers to which two writes of the way have one landing."""
+    found = {}
+    for step, row in enumerate(way):
+        for operation in code.rows[row]:
+            if operation[1] is not None:
+                key = (step + delay(code, operation), operation[1])
+                found[key] = found.get(key, 0) + 1
+    return sorted({name for (_, name), many in found.items() if many > 1})
+
+
+def clash(code, rows):
+    """The length of a shortest way with a clash among those of at most so many rows, or None."""
+    for way in ways_up_to(code, rows):
+        if clashes(code, way):
+            return len(way)
+    return None
+
+
+class Play:
+    """A way done step by step, with registers that hold what has landed."""
+
+    def __init__(self, code, way, breaks=()):
+        self.code = code
+        self.held = {name: (entry(code, name), None) for name in code.registers}
+        self.flying = []
+        self.landed = []
+        self.results = {}
+        for step, row in enumerate(way):
+            self.land(step, step in breaks)
+            self.issue(step, code.rows[row])
+        self.land(len(way), False)
+
+    def land(self, step, broken):
+        """What is due lands, or all if the world breaks in, in the order of the landings."""
+        due = sorted(write for write in self.flying if broken or write[0] <= step)
+        self.flying = [write for write in self.flying if write not in due]
+        for landing, issued, index, name in due:
+            self.held[name] = (self.results[issued, index], (issued, index))
+            self.landed.append((step, landing, issued, index, name))
+
+    def issue(self, step, row):
+        read = {name: held[0] for name, held in self.held.items()}
+        for index, operation in enumerate(row):
+            if operation[1] is not None:
+                made = family(self.code, operation) == "make"
+                self.results[step, index] = ("made", step, index) if made else read[operation[2][0]]
+                self.flying.append((step + delay(self.code, operation), step, index, operation[1]))
+
+    def landings(self):
+        """All landings, also those behind the end of the way."""
+        behind = [(landing, landing, step, index, name) for landing, step, index, name in self.flying]
+        return tuple(sorted(self.landed + behind))
+
+
+def entry(code, name):
+    for group in code.alike:
+        if name in group:
+            return ("start", min(group))
+    return ("start", name)
+
+
+def value(code, way, name):
+    """The value of a name at a point to which the way leads."""
+    play = Play(code, way)
+    if name[0] == "in":
+        return play.held[name[1]][0]
+    return play.results[len(way) - name[1], name[2]]
+
+
+def names(code, point):
+    """[12]: the names at a point."""
+    by = [("by", back, index) for back in range(1, len(point))
+          for index, operation in enumerate(code.rows[point[-1 - back]]) if operation[1] is not None]
+    return sorted(by + [("in", name) for name in code.registers])
+
+
+def stands_for(code, point, name):
+    for by in names(code, point):
+        if by[0] == "by" and name[0] == "in":
+            operation = code.rows[point[-1 - by[1]]][by[2]]
+            if operation[1] == name[1] and delay(code, operation) == by[1]:
+                return by
+    return name
+
+
+def was(code, point, name):
+    """[12]: what a name at a point was at a point before it, None if it is new."""
+    stands = stands_for(code, point, name)
+    if stands[0] == "in":
+        return stands
+    if stands[1] > 1:
+        return ("by", stands[1] - 1, stands[2])
+    operation = code.rows[point[-2]][stands[2]]
+    return ("in", operation[2][0]) if family(code, operation) == "copy" else None
+
+
+def before(code, point, known):
+    """The points that this one is after, among the known ones."""
+    return [each for each in known if each[-1] < len(code.rows)
+            and any((each + (row,))[-reach(code) - 1:] == point for row in next_rows(code, each[-1]))]
+
+
+def holds(code, table, known):
+    """Whether each tuple of a table of alikes holds ([13])."""
+    return all(tuple_holds(code, table, known, each) for each in table)
+
+
+def tuple_holds(code, table, known, each):
+    point, one, other = each
+    if point not in known or not one < other:
+        return False
+    if one not in names(code, point) or other not in names(code, point):
+        return False
+    if stands_for(code, point, one) == stands_for(code, point, other):
+        return True
+    if point == (0,):
+        return entry(code, one[1]) == entry(code, other[1])
+    first, second = was(code, point, one), was(code, point, other)
+    if first is None or second is None:
+        return False
+    return first == second or all((p, min(first, second), max(first, second)) in table
+                                  for p in before(code, point, known))
+
+
+MACHINES = [
+    (Make("calc", 2), Make("slow", 5), Copy("move", 4), Give("send"), Jump("go")),
+    (Make("one", 1), Copy("keep", 1), Copy("move", 3), Give("send"), Jump("go")),
+    (Copy("quick", 1), Copy("keep", 2), Make("calc", 2), Jump("go")),
+]
+
+
+def random_row(chance, machine, size, registers, jumps):
+    """A row of the machine; one that must not have a jump may still fail as a late row's goal."""
+    while True:
+        row = tuple(random_operation(chance, machine, size, registers)
+                    for _ in range(chance.choice([0, 1, 1, 1, 2, 2, 3])))
+        if is_row(machine, row) and (jumps or jump_in(row) is None):
+            return row
+
+
+def random_operation(chance, machine, size, registers):
+    kind = chance.choice(machine.kinds + machine.kinds[-1:])
+    counts = {"make": (0, 1), "copy": (1,), "give": (1, 2), "jump": (0, 1, 1, 1, 1, 1)}[kind.family]
+    sources = tuple(chance.choice(registers) for _ in range(chance.choice(counts)))
+    target = chance.choice(registers) if kind.family in ("make", "copy") else None
+    goal = chance.choice([0, chance.randint(0, size)]) if kind.family == "jump" else None
+    return (kind.name, target, sources, goal)
+
+
+def random_rows(chance, machine, size, registers):
+    """Rows of which none that must be a late row has a jump."""
+    rows = []
+    held = 0
+    for at in range(size):
+        rows.append(random_row(chance, machine, size, registers, not held and at + machine.late < size))
+        held = machine.late if jump_in(rows[-1]) else max(0, held - 1)
+    return rows
+
+
+def random_code(chance, most_rows=6):
+    """A code for one of a few machines, small, often with jumps and groups."""
+    size = chance.choice([1, *range(2, most_rows + 1), most_rows])
+    late = chance.choice([0, 0, 1, 2])
+    machine = Machine(*chance.choice(MACHINES), late=late, width=3)
+    registers = ["a", "b", "c"][:chance.randint(1, 3)]
+    while True:
+        rows = random_rows(chance, machine, size, registers)
+        try:
+            code = Code.of(machine, rows)
+        except InvalidCode:
+            continue
+        if len(code.registers) > 1 and chance.random() < 0.5:
+            group = chance.sample(code.registers, chance.randint(2, len(code.registers)))
+            return Code.of(machine, rows, alike=[group])
+        return code
+
+
+def random_codes(seed, many, most_rows=6):
+    chance = random.Random(seed)
+    return [random_code(chance, most_rows) for _ in range(many)]

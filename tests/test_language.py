@@ -1,0 +1,166 @@
+"""Rules of shared/LANGUAGE.md that can be read off the files of the package."""
+
+import ast
+import builtins
+import pathlib
+import re
+import unittest
+
+PACKAGE = pathlib.Path(__file__).resolve().parent.parent / "latelands"
+FILES = sorted(PACKAGE.rglob("*.py"))
+LIBRARY = {"heapq": {"heappush", "heappop", "heapify", "heapreplace", "heappushpop"}}
+BUILTINS = {
+    "len", "range", "enumerate", "zip", "min", "max", "sum", "abs", "sorted", "reversed", "int", "str", "bool", "list",
+    "tuple", "dict", "set", "isinstance", "ord", "repr", "any", "all", "divmod", "iter", "next", "map", "ValueError",
+    "TypeError", "KeyError", "IndexError", "LookupError", "OverflowError", "RuntimeError", "NotImplemented",
+    "classmethod", "staticmethod", "property"}
+DUNDERS = {"__init__", "__eq__", "__repr__", "__str__", "__len__", "__iter__", "__contains__", "__getitem__", "__enter__",
+           "__exit__"}
+BARRED = {"register", "mro", "elements", "open", "input", "law", "version_info", "with_traceback", "add_note"}
+METHODS = set("""append clear copy count endswith extend find get index insert isalnum isalpha isdigit islower isspace
+isupper items join keys ljust lower lstrip partition pop remove replace reverse rfind rjust rpartition rsplit rstrip
+setdefault split splitlines startswith strip update upper values zfill bit_length add discard""".split())
+# What the interface lists for the modules that are there.
+INTERFACE = {
+    "kinds": ["Kind", "Make", "Copy", "Give", "Jump", "is_name"],
+    "machines": ["Machine"],
+    "rows": ["is_operation", "is_row", "row_text", "read_row"],
+    "codes": ["Code"],
+    "ways": ["is_way", "ways", "way_to", "is_point", "points", "points_after", "points_before"],
+    "landings": ["clash", "landings", "writer"],
+    "alike": ["names", "stands_for", "name_before", "alike", "classes"],
+}
+
+
+def tree_of(path):
+    return ast.parse(path.read_text())
+
+
+def walk_all(kind):
+    """All nodes of a kind, with the file in which they stand."""
+    return [(path.name, node) for path in FILES for node in ast.walk(tree_of(path)) if isinstance(node, kind)]
+
+
+class LanguageTest(unittest.TestCase):
+
+    def test_the_folder_holds_plain_files_only(self):
+        self.assertIn(PACKAGE / "__init__.py", FILES)
+        for path in PACKAGE.rglob("*"):
+            if "__pycache__" not in path.parts:
+                self.assertTrue(path in FILES, path)
+                self.assertRegex(path.name, r"^[a-z_]+\.py$")
+        self.assertLessEqual(len(FILES), 100)
+
+    def test_sizes_and_characters(self):
+        for path in FILES:
+            lines = path.read_text().split("\n")
+            self.assertLessEqual(len(lines), 399, path)
+            for line in lines:
+                self.assertLessEqual(len(line), 120, line)
+                self.assertRegex(line, r"^[ -~]*$")
+        for name, function in walk_all(ast.FunctionDef):
+            self.assertLessEqual(function.end_lineno - function.lineno + 1, 40, (name, function.name))
+
+    def test_imports(self):
+        used = {}
+        for name, node in walk_all((ast.Import, ast.ImportFrom)):
+            self.assertIsInstance(node, ast.ImportFrom, name)
+            self.assertEqual(node.level, 0)
+            bound = {alias.name for alias in node.names}
+            self.assertTrue(all(alias.asname is None for alias in node.names))
+            if node.module in LIBRARY:
+                self.assertLessEqual(bound, LIBRARY[node.module])
+                continue
+            top, module = node.module.split(".")
+            self.assertEqual(top, "latelands")
+            used.setdefault(name[:-3], set()).add(module)
+            defined = {stated.name for stated in tree_of(PACKAGE / f"{module}.py").body if hasattr(stated, "name")}
+            defined |= {target.id for stated in tree_of(PACKAGE / f"{module}.py").body if isinstance(stated, ast.Assign)
+                        for target in stated.targets}
+            self.assertLessEqual(bound, defined, name)
+        reached = {name: self.reached(used, name) for name in used}
+        for name in reached:
+            self.assertNotIn(name, reached[name], "files import from each other")
+
+    def reached(self, used, name):
+        found, left = set(), list(used[name])
+        while left:
+            module = left.pop()
+            if module not in found:
+                found.add(module)
+                left.extend(used.get(module, ()))
+        return found
+
+    def test_names(self):
+        barred = set(dir(builtins)) | BARRED | {"id", "type", "vars", "dir", "exec", "eval", "super"}
+        for name, node in walk_all((ast.FunctionDef, ast.ClassDef, ast.arg, ast.Name)):
+            word = getattr(node, "arg", None) or getattr(node, "id", None) or node.name
+            bound = not isinstance(node, ast.Name) or isinstance(node.ctx, ast.Store)
+            if bound:
+                self.assertNotIn(word, barred, name)
+            elif word in dir(builtins):
+                self.assertIn(word, BUILTINS, name)
+            self.assertTrue(word in DUNDERS or not word.startswith("__"), word)
+        for name, node in walk_all(ast.Attribute):
+            self.assertNotIn(node.attr, BARRED, name)
+            self.assertFalse(node.attr.startswith("__") and node.attr not in ("__init__",), node.attr)
+
+    def test_methods_of_builtin_values(self):
+        own = {node.name for _, node in walk_all(ast.FunctionDef)}
+        for name, node in walk_all(ast.Call):
+            if isinstance(node.func, ast.Attribute):
+                self.assertIn(node.func.attr, METHODS | own, name)
+
+    def test_generators_have_names_of_their_own(self):
+        functions = walk_all(ast.FunctionDef)
+        for name, function in functions:
+            if any(isinstance(node, (ast.Yield, ast.YieldFrom)) for node in ast.walk(function)):
+                same = [other.name for _, other in functions if other.name == function.name]
+                self.assertEqual(len(same), 1, function.name)
+                called = [node for _, node in walk_all(ast.Call)
+                          if isinstance(node.func, ast.Name) and node.func.id == function.name]
+                self.assertEqual(called, [])
+
+    def test_words_that_do_not_occur(self):
+        for path in FILES:
+            for node in ast.walk(tree_of(path)):
+                if isinstance(node, (ast.Global, ast.AsyncFunctionDef, ast.SetComp, ast.GeneratorExp, ast.Await, ast.Try,
+                                     ast.Div)):
+                    self.assertIsInstance(node, ast.SetComp, path)
+                if isinstance(node, ast.Constant) and isinstance(node.value, str):
+                    self.assertNotIn("%", node.value)
+                    self.assertIsNone(re.search(r"\b(type|enum|Flag|Generic|Protocol|typing)\b", node.value))
+                self.assertFalse(isinstance(node, ast.Constant) and isinstance(node.value, float))
+
+    def test_module_level(self):
+        for path in FILES:
+            seen = []
+            for node in tree_of(path).body:
+                self.assertIsInstance(node, (ast.Expr, ast.ImportFrom, ast.FunctionDef, ast.ClassDef, ast.Assign), path)
+                if isinstance(node, ast.Expr):
+                    self.assertIsInstance(node.value, ast.Constant, path)
+                seen.extend([node.name] if hasattr(node, "name") else
+                            [alias.name for alias in node.names] if hasattr(node, "names") else
+                            [target.id for target in node.targets] if isinstance(node, ast.Assign) else [])
+            self.assertEqual(len(seen), len(set(seen)), path)
+
+    def test_no_local_name_is_a_class_or_an_import_of_its_file(self):
+        for path in FILES:
+            tree = tree_of(path)
+            taken = {alias.name for node in tree.body if isinstance(node, ast.ImportFrom) for alias in node.names}
+            taken |= {node.name for node in tree.body if isinstance(node, ast.ClassDef)}
+            for node in ast.walk(tree):
+                if isinstance(node, ast.arg):
+                    self.assertNotIn(node.arg, taken, path)
+                if isinstance(node, ast.Name) and isinstance(node.ctx, ast.Store):
+                    self.assertNotIn(node.id, taken, path)
+
+    def test_the_interface_stands_in_its_files(self):
+        for module, names in INTERFACE.items():
+            found = [node.name for node in tree_of(PACKAGE / f"{module}.py").body if hasattr(node, "name")]
+            for name in names:
+                self.assertIn(name, found, module)
+
+
+if __name__ == "__main__":
+    unittest.main()
