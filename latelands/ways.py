@@ -51,18 +51,18 @@ def way_to(code, row):
 def shortest_ways(code):
     """A dict from each row to which a way leads, and the end, to the way that way_to tells."""
     found = {0: (0,)}
-    layer = [0]
-    # A layer has its rows in the order of their ways, so the first way found to a row is the least.
-    while len(layer) > 0:
-        later = []
-        for row in layer:
-            for following in code.following[row]:
-                if following not in found and following < len(code):
-                    found[following] = found[row] + (following,)
-                    later.append(following)
-                elif following not in found:
-                    found[following] = found[row]
-        layer = later
+    queue = [0]
+    done = 0
+    # The rows stand in the order of their ways, so the first way that is found to a row is the least.
+    while done < len(queue):
+        row = queue[done]
+        done = done + 1
+        for following in code.following[row]:
+            if following not in found and following < len(code):
+                found[following] = found[row] + (following,)
+                queue.append(following)
+            elif following not in found:
+                found[following] = found[row]
     return found
 
 

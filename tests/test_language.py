@@ -40,6 +40,79 @@ def walk_all(kind):
     """All nodes of a kind, with the file in which they stand."""
     return [(path.name, node) for path in FILES for node in ast.walk(tree_of(path)) if isinstance(node, kind)]
 
+CHANGING = {"append", "clear", "extend", "insert", "pop", "remove", "reverse", "setdefault", "update", "add", "discard",
+            "sort"}
+HEAPS = {"heappush", "heappop", "heapify", "heapreplace", "heappushpop"}
+
+
+def place_of(node):
+    """What is walked or changed, told by names: a name, or an attribute of one; an index is left out."""
+    while isinstance(node, (ast.Subscript, ast.Starred)):
+        node = node.value
+    if isinstance(node, ast.Name):
+        return node.id
+    if isinstance(node, ast.Attribute):
+        held = place_of(node.value)
+        return None if held is None else f"{held}.{node.attr}"
+    return None
+
+
+def places_of(node):
+    """All places that an expression may give: those of a choice, and what enumerate and the like walk."""
+    if isinstance(node, ast.IfExp):
+        return places_of(node.body) + places_of(node.orelse)
+    if isinstance(node, ast.BoolOp):
+        return [place for value in node.values for place in places_of(value)]
+    if isinstance(node, ast.Call) and isinstance(node.func, ast.Name) and node.func.id in ("enumerate", "zip", "reversed"):
+        return [place for value in node.args for place in places_of(value)]
+    if isinstance(node, ast.Call) and isinstance(node.func, ast.Attribute) and node.func.attr in ("items", "keys", "values"):
+        return places_of(node.func.value)
+    return [place_of(node)] if place_of(node) is not None else []
+
+
+def changed_in(nodes):
+    """The places that these statements change."""
+    found = set()
+    for node in [inner for each in nodes for inner in ast.walk(each)]:
+        if isinstance(node, ast.Call) and isinstance(node.func, ast.Attribute) and node.func.attr in CHANGING:
+            found.add(place_of(node.func.value))
+        if isinstance(node, ast.Call) and isinstance(node.func, ast.Name) and node.func.id in HEAPS:
+            found.add(place_of(node.args[0]))
+        if isinstance(node, ast.Subscript) and isinstance(node.ctx, (ast.Store, ast.Del)):
+            found.add(place_of(node))
+        if isinstance(node, ast.AugAssign):
+            found.add(place_of(node.target))
+    return found - {None}
+
+
+def names_of_one_list(function):
+    """For each place the places that an assignment makes one list with it."""
+    same = {}
+    for node in ast.walk(function):
+        if isinstance(node, ast.Assign):
+            for target in node.targets:
+                for place in places_of(node.value):
+                    joined = {place_of(target), place} | same.get(place, set()) | same.get(place_of(target), set())
+                    for each in joined:
+                        same[each] = same.get(each, set()) | joined
+    return same
+
+
+def walked_and_changed(function):
+    """The places that a loop or comprehension of the function walks and changes."""
+    same = names_of_one_list(function)
+    found = set()
+    for node in ast.walk(function):
+        walked, inside = [], []
+        if isinstance(node, ast.For):
+            walked, inside = places_of(node.iter), node.body
+        if isinstance(node, (ast.ListComp, ast.SetComp, ast.DictComp)):
+            walked = [place for each in node.generators for place in places_of(each.iter)]
+            inside = [node]
+        changed = {name for place in changed_in(inside) for name in same.get(place, {place})}
+        found |= {place for place in walked if place in changed}
+    return found
+
 
 class LanguageTest(unittest.TestCase):
 
@@ -160,6 +233,21 @@ class LanguageTest(unittest.TestCase):
             found = [node.name for node in tree_of(PACKAGE / f"{module}.py").body if hasattr(node, "name")]
             for name in names:
                 self.assertIn(name, found, module)
+
+    def test_what_a_loop_walks_is_not_changed_in_it(self):
+        for name, function in walk_all(ast.FunctionDef):
+            self.assertEqual(walked_and_changed(function), set(), (name, function.name))
+
+    def test_that_a_walked_list_is_found_by_all_its_names(self):
+        head = "def f(layer, box, c):\n "
+        for text in ("for x in layer:\n  layer.append(x)", "for x in layer:\n  later.append(x)\n layer = later",
+                     "for x in enumerate(layer):\n  layer[x] = 1", "for x in box.rows:\n  box.rows.pop()",
+                     "for x in box.rows[c]:\n  box.rows[x].append(c)", "for x in layer if c else box:\n  box.append(x)",
+                     "for x in layer.items():\n  del layer[x]", "a = b = layer\n for x in a:\n  heappush(b, x)"):
+            self.assertNotEqual(walked_and_changed(ast.parse(head + text)), set(), text)
+        for text in ("for x in list(layer):\n  layer.append(x)", "for x in layer:\n  later.append(x)",
+                     "for x in box.rows:\n  box.found.append(x)"):
+            self.assertEqual(walked_and_changed(ast.parse(head + text)), set(), text)
 
 
 if __name__ == "__main__":
