@@ -1,9 +1,10 @@
 """The names of values at the points of a code, and which of them are alike."""
 
-from latelands.errors import NoName, NoPoint
+from latelands.atlas import atlas_of
+from latelands.errors import NoPoint
 from latelands.landings import refuse_clash
-from latelands.naming import is_name_at, name_was, names_at, standing
-from latelands.tracing import Tracer
+from latelands.levels import levels_of
+from latelands.naming import check_name, name_was, names_at, standing
 from latelands.ways import check_point, following_points
 
 
@@ -34,11 +35,6 @@ def name_before(code, point, following, name):
     return name_was(code, following, name)
 
 
-def check_name(code, point, name):
-    if not is_name_at(code, point, name):
-        raise NoName(name)
-
-
 def alike(code, point, one, other):
     """A table of alikes that has two names at a point, or a shortest way on which they are unlike."""
     refuse_clash(code)
@@ -47,30 +43,18 @@ def alike(code, point, one, other):
     check_name(code, point, other)
     if one == other:
         return "alike", ()
-    tracer = Tracer(code)
-    unlike, onward = tracer.trace((point, min(one, other), max(one, other)))
-    if unlike is None:
-        return "alike", tuple(sorted(list(onward)))
-    return "unlike", tracer.way_on(unlike, onward)
+    atlas = atlas_of(code)
+    levels = levels_of(code)
+    pair = atlas.pair(point, one, other)
+    if levels.rows_to(pair) is None:
+        return "alike", atlas.told(atlas.closed([pair]))
+    return "unlike", levels.way_to(code, pair)
 
 
 def classes(code, point):
-    """The ascending tuple of the classes of names that are alike at a point, each ascending."""
+    """The ascending tuple of the classes of names that are alike at the point, each ascending."""
     refuse_clash(code)
     check_point(code, point)
-    tracer = Tracer(code)
-    firsts = []
-    first_of = {}
-    for name in names_at(code, point):
-        first_of[name] = first_alike(tracer, point, firsts, name)
-        if first_of[name] == name:
-            firsts.append(name)
-    return tuple([tuple([each for each in first_of if first_of[each] == first]) for first in firsts])
-
-
-def first_alike(tracer, point, firsts, name):
-    """The first of these lesser names that is alike with a name at the point, or the name itself."""
-    for first in firsts:
-        if tracer.are_alike((point, first, name)):
-            return first
-    return name
+    atlas = atlas_of(code)
+    found = levels_of(code).last_classes(atlas.spot_of[point])
+    return tuple([tuple([atlas.name_of[name] for name in names_alike]) for names_alike in found])

@@ -4,15 +4,17 @@ from latelands.checks import within
 from latelands.errors import InvalidCode, InvalidText, NoName, NoRow
 from latelands.kinds import BARRED_NAME, is_name
 from latelands.rows import is_row, parse_row, row_text
-from latelands.shape import following_of, goals_of, held_of, jump_of, leading_of, names_of, writes_of
+from latelands.shape import (following_of, goals_of, held_of, jump_of, leading_of, names_of, reached_by,
+                             writes_of)
 
 
 class Code:
     """A code; it never changes.
 
     Beside what the interface lists it has these attributes: `following` and `leading`, for each
-    row the tuples of its next rows and of the rows before it (these also for the end), and
-    `writes`, as latelands.shape tells them.
+    row the tuples of its next rows and of the rows before it (these also for the end), `writes` and
+    `reached`, as latelands.shape tells them; and `memo`, a dict in which other modules keep what
+    they once found out about the code, so that it need not be found anew.
     """
 
     MOST_ROWS = 40
@@ -34,8 +36,10 @@ class Code:
         self.gaps = tuple([gap for gap in range(len(rows)) if gap not in self.held])
         self.following = following_of(rows, machine.late)
         self.leading = leading_of(self.following)
+        self.reached = reached_by(self.following)
         self.writes = writes_of(machine, rows)
         self.reach = max([delay for row in self.writes for _, _, delay, _ in row], default=1)
+        self.memo = {}
 
     @classmethod
     def of(cls, machine, rows, *, alike=()):
@@ -83,7 +87,7 @@ class Code:
         if not within(row, 0, len(self.rows) - 1):
             raise NoRow(row)
         rows = [operations if at == row else self.rows[at] for at in range(len(self.rows))]
-        return Code.of(self.machine, rows, alike=self.alike)
+        return Code(self.machine, *rows, alike=self.alike)
 
     def __len__(self):
         return len(self.rows)

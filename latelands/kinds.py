@@ -43,7 +43,7 @@ class Make(Kind):
     """Makes a new value each time, which lands delay steps later."""
 
     def __init__(self, name, delay):
-        Kind.__init__(self, name)
+        super().__init__(name)
         check_delay(delay)
         self.delay = delay
         self.family = "make"
@@ -59,7 +59,7 @@ class Copy(Kind):
     """Copies the value that it reads, which lands delay steps later."""
 
     def __init__(self, name, delay):
-        Kind.__init__(self, name)
+        super().__init__(name)
         check_delay(delay)
         self.delay = delay
         self.family = "copy"
@@ -75,7 +75,7 @@ class Give(Kind):
     """Hands values to the world."""
 
     def __init__(self, name):
-        Kind.__init__(self, name)
+        super().__init__(name)
         self.family = "give"
 
     def __eq__(self, other):
@@ -89,7 +89,7 @@ class Jump(Kind):
     """Jumps to a row: always, or as the world says."""
 
     def __init__(self, name):
-        Kind.__init__(self, name)
+        super().__init__(name)
         self.family = "jump"
 
     def __eq__(self, other):

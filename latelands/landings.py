@@ -2,7 +2,7 @@
 
 from latelands.checks import within
 from latelands.errors import Clash, InvalidBreaks, InvalidWay, NoName, NoStep, TooMany
-from latelands.ways import MOST_POINTS, count_points, shortest_ways, walks, wrong_entry
+from latelands.ways import MOST_POINTS, count_points, walks, wrong_entry
 
 
 def landings(code, way, breaks=()):
@@ -63,6 +63,13 @@ def clash(code):
     """None, or a shortest way with a clash and the least register to which it happens there."""
     if count_points(code) > MOST_POINTS:
         raise TooMany(MOST_POINTS)
+    if "clash" not in code.memo:
+        code.memo["clash"] = found_clash(code)
+    return code.memo["clash"]
+
+
+def found_clash(code):
+    """The same, for a code with few enough points."""
     found = clashing_ways(code)
     if len(found) == 0:
         return None
@@ -83,16 +90,15 @@ def clashing_ways(code):
     For each two rows of which this can be said, and each number of steps from one to the other,
     there is one that comes to the earlier row as soon as can be.
     """
-    reached = shortest_ways(code)
     everywhere = {(name, delay): True for row in code.writes for _, name, delay, _ in row}
     found = []
-    for first in [row for row in range(len(code)) if row in reached]:
+    for first in [row for row in range(len(code)) if row in code.reached]:
         for steps in range(1, code.reach):
             # What a write so many steps later must be to land together with one of this row.
             together = [(name, delay - steps) for _, name, delay, _ in code.writes[first]]
             wanted = [write for write in together if write in everywhere]
             if len(wanted) > 0:
-                found.extend([reached[first] + walk[1:] for walk in walks(code, first, steps)
+                found.extend([code.reached[first] + walk[1:] for walk in walks(code, first, steps)
                               if writes_one_of(code, walk[-1], wanted)])
     return found
 

@@ -1,4 +1,7 @@
-"""The names of values at the points of a code, for points and names that are known to be right."""
+"""The names of values at the points of a code, for points that are known to be right."""
+
+from latelands.errors import NoName
+
 
 def names_at(code, point):
     """The ascending list of the names at a point."""
@@ -10,6 +13,12 @@ def is_name_at(code, point, value):
     """Whether any value is a name at a point."""
     # True is equal to 1, but it is no number of steps.
     return value in names_at(code, point) and not any([isinstance(part, bool) for part in value])
+
+
+def check_name(code, point, value):
+    """Refuses any value that is no name at a point."""
+    if not is_name_at(code, point, value):
+        raise NoName(value)
 
 
 def standing(code, point, name):

@@ -17,15 +17,16 @@ def goals_of(rows):
     return [jump_of(row)[3] for row in rows if jump_of(row) is not None]
 
 
+def names_read(row):
+    """The list of the registers that the operations of a row read."""
+    return [source for _, _, sources, _ in row for source in sources]
+
+
 def names_of(rows):
     """The ascending tuple of the registers in the operations."""
-    found = []
-    for row in rows:
-        for _, target, sources, _ in row:
-            found.extend(sources)
-            if target is not None:
-                found.append(target)
-    return tuple(sorted(set(found)))
+    read = [name for row in rows for name in names_read(row)]
+    written = [target for row in rows for _, target, _, _ in row if target is not None]
+    return tuple(sorted(set(read + written)))
 
 
 def held_of(rows, late):
@@ -50,6 +51,27 @@ def next_of_jump(jump, last):
     if len(sources) == 0:
         return (goal,)
     return tuple(sorted({goal, last + 1}))
+
+
+def reached_by(following):
+    """A dict from each row to which a way leads, and the end, to the least of the shortest ways.
+
+    For a row these are the ways whose last row it is; for the end those behind which the code can end.
+    """
+    found = {0: (0,)}
+    queue = [0]
+    done = 0
+    # The rows stand in the order of their ways, so the first way that is found to a row is the least.
+    while done < len(queue):
+        row = queue[done]
+        done = done + 1
+        for later in following[row]:
+            if later not in found and later < len(following):
+                found[later] = found[row] + (later,)
+                queue.append(later)
+            elif later not in found:
+                found[later] = found[row]
+    return found
 
 
 def leading_of(following):

@@ -45,25 +45,7 @@ def way_to(code, row):
     """The least of the shortest ways to a row, or behind which the code can end, or None."""
     if not within(row, 0, len(code)):
         raise NoRow(row)
-    return shortest_ways(code).get(row)
-
-
-def shortest_ways(code):
-    """A dict from each row to which a way leads, and the end, to the way that way_to tells."""
-    found = {0: (0,)}
-    queue = [0]
-    done = 0
-    # The rows stand in the order of their ways, so the first way that is found to a row is the least.
-    while done < len(queue):
-        row = queue[done]
-        done = done + 1
-        for following in code.following[row]:
-            if following not in found and following < len(code):
-                found[following] = found[row] + (following,)
-                queue.append(following)
-            elif following not in found:
-                found[following] = found[row]
-    return found
+    return code.reached.get(row)
 
 
 def is_point(code, value):
@@ -72,7 +54,7 @@ def is_point(code, value):
         return False
     if not is_walk(code, value):
         return False
-    return value[0] == 0 if len(value) <= code.reach else value[0] in shortest_ways(code)
+    return value[0] == 0 if len(value) <= code.reach else value[0] in code.reached
 
 
 def is_walk(code, value):
@@ -102,24 +84,32 @@ def points(code):
     """Yields all points, shorter ones first, those of one length ascending."""
     if count_points(code) > MOST_POINTS:
         raise TooMany(MOST_POINTS)
-    for steps in range(code.reach):
-        for point in walks(code, 0, steps):
-            yield point
-    for row in sorted(list(shortest_ways(code))):
-        for point in walks(code, row, code.reach):
-            yield point
+    for point in list_points(code):
+        yield point
+
+
+def list_points(code):
+    """The list of what points yields."""
+    short = [point for steps in range(code.reach) for point in walks(code, 0, steps)]
+    return short + [point for row in sorted(list(code.reached)) for point in walks(code, row, code.reach)]
 
 
 def count_points(code):
     """The number of the points of the code, be they ever so many."""
-    reached = shortest_ways(code)
+    if "count" not in code.memo:
+        code.memo["count"] = counted_points(code)
+    return code.memo["count"]
+
+
+def counted_points(code):
+    """The same, counted anew."""
     # Of each row, and of the end, the number of its walks over the steps so far.
     counts = [1] * (len(code) + 1)
     many = 0
     for _ in range(code.reach):
         many = many + counts[0]
         counts = [sum([counts[following] for following in rows]) for rows in code.following] + [0]
-    return many + sum([counts[row] for row in reached])
+    return many + sum([counts[row] for row in code.reached])
 
 
 def points_after(code, point):
@@ -131,7 +121,7 @@ def points_after(code, point):
 def points_before(code, point):
     """The ascending tuple of the points that a point is after."""
     check_point(code, point)
-    return leading_points(code, point, shortest_ways(code))
+    return leading_points(code, point)
 
 
 def check_point(code, point):
@@ -144,9 +134,9 @@ def following_points(code, point):
     return tuple([(point + (row,))[-code.reach - 1:] for row in entries_behind(code, point[-1])])
 
 
-def leading_points(code, point, reached):
-    """What points_before tells of a point, for the rows to which ways lead."""
-    found = [(row,) + point[:-1] for row in code.leading[point[0]] if row in reached]
+def leading_points(code, point):
+    """What points_before tells of a point."""
+    found = [(row,) + point[:-1] for row in code.leading[point[0]] if row in code.reached]
     if len(point) <= code.reach:
         found = []
     if len(point) > 1 and point[0] == 0:
@@ -154,6 +144,6 @@ def leading_points(code, point, reached):
     return tuple(sorted(found))
 
 
-def shortest_way_to_point(point, reached):
-    """A shortest way that leads to a point, by the shortest ways to all rows."""
-    return reached[point[0]][:-1] + point[:-1]
+def shortest_way_to_point(code, point):
+    """A shortest way that leads to a point."""
+    return code.reached[point[0]][:-1] + point[:-1]

@@ -62,3 +62,88 @@ def clashing(goals, late):
     row = list(ways(code, late + 1))[0][-1]
     operation = ({3: "three", 4: "two", 5: "one"}[late], "a", (), None)
     return code.with_row(row, (operation,) + code[row])
+
+
+# Copies that land late, and makes that land ahead of them.
+T = Machine(Copy("move", 4), Copy("far", 5), Copy("hold", 2), Make("calc", 2), Make("slow", 6), Give("send"), Jump("go"))
+# Rows with one bad pair, their own rows 1 and 2, and with two, (1, 3) and (2, 3), that leave r and s alike.
+TWO = "r = move s / r = calc / send r / r = hold s"
+THREE = "r = far s / - / r = calc / send r / r = hold s"
+# Three gaps, each two of which are a bad pair, and some more of them; the gap 0 is bad alone.
+ROUND_TEXT = ("alike a b / a = two a / send b / a = calc ; go 0 b / b = six b / a = six a ; send b / b = once / send b / "
+              "send a ; a = two b / send a")
+ROUND = Code.read(Machine(Copy("two", 2), Copy("six", 6), Make("calc", 2), Make("once", 3), Give("send"), Jump("go")),
+                  ROUND_TEXT.replace(" / ", "\n"))
+
+
+def tied(*parts):
+    """A code of such rows one behind another."""
+    return Code.read(T, "alike r s\n" + " / ".join(parts).replace(" / ", "\n"))
+
+
+def straight(text):
+    """A code for the machine T, its lines parted by ` / `."""
+    return Code.read(T, text.replace(" / ", "\n"))
+
+
+# The goals of a code of forty rows with 796 points.
+WIDE_GOALS = [None, None, 8, 37, None, 4, 20, 23, 14, 17, 15, 21, None, 10, 10, 19, None, None, 5, 40, 18, 32, 19, None, 7,
+              35, None, None, 34, None, 33, None, None, None, 37, 27, 28, None, 18, 34]
+WIDE_DELAYS = {"a": "six", "b": "five", "c": "two", "d": "six", "e": "five", "f": "six", "g": "two", "h": "five"}
+
+
+def wide(*makes):
+    """That code; its rows are full of copies, but for makes in these rows. All registers begin alike."""
+    machine = Machine(Copy("two", 2), Copy("five", 5), Copy("six", 6), Make("calc", 6), Give("send"), Jump("go"))
+    names = "abcdefgh"
+    rows = []
+    for at, goal in enumerate(WIDE_GOALS):
+        row = [] if goal is None else [("go", None, (names[at % 8],), goal)]
+        one, other = names[at * 3 % 8], names[(at * 3 + 1) % 8]
+        if at in makes:
+            row.append(("calc", "a", (), None))
+        else:
+            row.append((WIDE_DELAYS[one], one, (names[(at * 5 + 1) % 8],), None))
+        if at % 4 == 3:
+            row.append(("send", None, (names[at // 4 % 8],), None))
+        elif at not in makes or other != "a":
+            row.append((WIDE_DELAYS[other], other, (names[(at * 5 + 2) % 8],), None))
+        rows.append(tuple(row))
+    return Code.of(machine, rows, alike=[tuple(names)])
+
+
+def slow_code():
+    """The code of 22 rows that the alike of two names was slow for."""
+    machine = Machine(Make("slow", 5), Copy("mv", 3), Give("out"), Jump("go"), late=0, width=3)
+    rows = [(("go", None, ("c",), (3 * row + 2) % 22),) for row in range(22)]
+    for row, operation in ((0, ("slow", "w", (), None)), (3, ("out", None, ("r", "s"), None)),
+                           (5, ("mv", "r", ("t",), None)), (9, ("mv", "s", ("u",), None)),
+                           (12, ("mv", "t", ("s",), None)), (15, ("mv", "u", ("r",), None))):
+        rows[row] = (operation,) + rows[row]
+    return Code.of(machine, rows, alike=[("r", "s", "t", "u")])
+
+
+def twisted(value):
+    """The value with one of its parts made a list instead of a tuple, or True or False instead of 1 or 0."""
+    if isinstance(value, tuple):
+        yield list(value)
+        for at, part in enumerate(value):
+            for other in twisted(part):
+                yield value[:at] + (other,) + value[at + 1:]
+    elif isinstance(value, int) and value in (0, 1):
+        yield bool(value)
+
+
+def spoilt(value):
+    """The value with one of its parts left out, twice, or made something else."""
+    if isinstance(value, tuple):
+        for at, part in enumerate(value):
+            yield value[:at] + value[at + 1:]
+            yield value[:at] + (part,) + value[at:]
+            for other in spoilt(part):
+                yield value[:at] + (other,) + value[at + 1:]
+    elif isinstance(value, int):
+        yield value + 1
+        yield -value - 1
+    for other in (None, "x", (), {"r": 1}, (value,), 10 ** 59):
+        yield other

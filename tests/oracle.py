@@ -3,6 +3,7 @@
 Nothing that judges here asks the package for more than the rows, groups and kinds of a code.
 """
 
+import itertools
 import random
 
 from latelands.codes import Code
@@ -93,6 +94,7 @@ class Play:
         self.flying = []
         self.landed = []
         self.results = {}
+        self.handed = ()
         for step, row in enumerate(way):
             self.land(step, step in breaks)
             self.issue(step, code.rows[row])
@@ -108,6 +110,7 @@ class Play:
 
     def issue(self, step, row):
         read = {name: held[0] for name, held in self.held.items()}
+        self.handed += (tuple(tuple(read[source] for source in operation[2]) for operation in row),)
         for index, operation in enumerate(row):
             if operation[1] is not None:
                 made = family(self.code, operation) == "make"
@@ -190,6 +193,183 @@ def tuple_holds(code, table, known, each):
                                   for p in before(code, point, known))
 
 
+def held_gaps(code):
+    """[6], [8]: the late rows of all jumps."""
+    return [at + behind for at, row in enumerate(code.rows) if jump_in(row)
+            for behind in range(1, code.machine.late + 1)]
+
+
+def moments(code, way):
+    return [step for step in range(1, len(way)) if way[step] not in held_gaps(code)]
+
+
+def first_change(code, way, breaks):
+    """[10]: the first change, by what the way hands with the breaks and without."""
+    return change_between(Play(code, way).handed, Play(code, way, breaks).handed)
+
+
+def change_between(plain, broken):
+    changes = [(step, index, place) for step, row in enumerate(plain) for index, values in enumerate(row)
+               for place, each in enumerate(values) if broken[step][index][place] != each]
+    return min(changes, default=None)
+
+
+def least_changes(code, rows, most_breaks=2):
+    """[11]: for the gaps of breaks, on the ways of at most so many rows, the rows of a shortest way that they change."""
+    found = {}
+    for way in ways_up_to(code, rows):
+        plain = Play(code, way).handed
+        for many in range(1, most_breaks + 1):
+            for breaks in itertools.combinations(moments(code, way), many):
+                change = change_between(plain, Play(code, way, breaks).handed)
+                if change is not None:
+                    gaps = tuple(sorted(way[moment] for moment in breaks))
+                    found[gaps] = min(found.get(gaps, len(way)), change[0] + 1)
+    return found
+
+
+def writes_at(code, point):
+    """[14]: the writes in the rows of a point that were done: (row's steps ago, index, register, landing from now)."""
+    return [(back, index, operation[1], delay(code, operation) - back) for back in range(1, len(point))
+            for index, operation in enumerate(code.rows[point[-1 - back]]) if operation[1] is not None]
+
+
+def differences(code, point, ages):
+    """[14]: what a read would see now with the breaks, if not for the breaks it lands later or another just now."""
+    found = []
+    for name in code.registers:
+        writes = [write for write in writes_at(code, point) if write[2] == name]
+        early = [(min([write[3]] + [-age for age in ages if -write[0] < -age]), write) for write in writes]
+        landed = [(e, write[3], write) for e, write in early if e <= 0]
+        if landed:
+            seen = max(landed)[2]
+            if seen[3] > 0 or any(write[3] == 0 for write in writes if write != seen):
+                found.append((name, seen[0], seen[1]))
+    return tuple(sorted(found))
+
+
+def patterns(code, point):
+    """[14]: all patterns at a point."""
+    ages = [age for age in range(len(point) - 1)
+            if point[-1 - age] < len(code.rows) and point[-1 - age] not in held_gaps(code)]
+    return [(age,) for age in ages] + list(itertools.combinations(ages, 2))
+
+
+def gaps_of(point, ages):
+    return tuple(sorted(point[-1 - age] for age in ages))
+
+
+def after(code, point):
+    """[12]: the points after a point."""
+    rows = next_rows(code, point[-1]) if point[-1] < len(code.rows) else []
+    return [(point + (row,))[-reach(code) - 1:] for row in rows]
+
+
+def lands_at(code, point, name):
+    return any(write[2] == name and write[3] == 0 for write in writes_at(code, point))
+
+
+def reads(code, row, name):
+    return row < len(code.rows) and any(name in operation[2] for operation in code.rows[row])
+
+
+def heard(code, point, name):
+    """[14]: the number of rows of a shortest tuple that shows that the register is heard, or None."""
+    layer, seen, rows = [point], set(), 1
+    while layer:
+        if any(reads(code, each[-1], name) for each in layer):
+            return rows
+        seen |= set(layer)
+        layer = [each for each in {later for each in layer for later in after(code, each)}
+                 if each not in seen and not lands_at(code, each, name)]
+        rows += 1
+    return None
+
+
+def quiets_hold(code, table, known):
+    """[14]: whether each pair of a table of quiets holds."""
+    return all(point in known and name in code.registers and not reads(code, point[-1], name)
+               and all(lands_at(code, later, name) or (later, name) in table for later in after(code, point))
+               for point, name in table)
+
+
+def open_holds(code, gaps, paper, known):
+    """[13], [14]: whether a paper shows that these gaps are together harmless."""
+    word, alikes, quiets = paper
+    if word != "open" or not holds(code, set(alikes), known) or not quiets_hold(code, set(quiets), known):
+        return False
+    return all((point, ("by", back, index), ("in", name)) in set(alikes) or (point, name) in set(quiets)
+               for point in known for ages in patterns(code, point) if set(gaps_of(point, ages)) <= set(gaps)
+               for name, back, index in differences(code, point, ages))
+
+
+def rows_waited_in(code):
+    """[16]: the rows in which a wait can begin."""
+    reached, left = {0}, [0]
+    begin = set()
+    while left:
+        for row in next_rows(code, left.pop()):
+            if row < len(code.rows):
+                begin.add(row)
+                if row not in reached:
+                    reached.add(row)
+                    left.append(row)
+    return sorted(begin)
+
+
+def longest_wait(code, gaps):
+    """[16]: the longest wait, or None if there is a ring; all waits are tried."""
+    ends, length = {row for row in rows_waited_in(code) if row not in gaps}, 0
+    while ends:
+        length += 1
+        if length > len(code.rows):
+            return None
+        ends = {row for end in ends for row in next_rows(code, end) if row < len(code.rows) and row not in gaps}
+    return length
+
+
+def is_wait(code, gaps, rows):
+    """[16]: whether a tuple of integers is a wait."""
+    right = rows_waited_in(code)
+    for row in rows:
+        if row not in right or row in gaps:
+            return False
+        right = next_rows(code, row) if row < len(code.rows) else []
+    return len(code.rows) not in rows
+
+
+def is_ring(code, gaps, rows):
+    return is_wait(code, gaps, rows) and len(rows) > 0 and rows[0] in next_rows(code, rows[-1])
+
+
+def cover_holds(pairs, most, paper):
+    """[15]: whether a tuple of the form of a cover paper is one; other forms raise errors."""
+    if paper is None:
+        return most < 0
+    if paper[0] == "pairs":
+        word, some = paper
+        numbers = [number for pair in some for number in set(pair)]
+        return len(some) > most and all(pair in pairs for pair in some) and len(numbers) == len(set(numbers))
+    word, number, taken, left = paper
+    partners = {other for pair in pairs for other in pair if number in pair and other != number}
+    if word != "case" or not partners or (number, number) in pairs:
+        return False
+    return (cover_holds([pair for pair in pairs if number not in pair], most - 1, taken)
+            and cover_holds([pair for pair in pairs if not partners & set(pair)], most - len(partners), left))
+
+
+def wait_paper_holds(code, pairs, count, paper, chosen=()):
+    """[16]: whether a tuple of the form of a wait paper is one; other forms raise errors."""
+    rows, cases = paper
+    if not is_ring(code, chosen, rows) and not (is_wait(code, chosen, rows) and len(rows) == count):
+        return False
+    shut = set(held_gaps(code)) | {low for low, high in pairs if low == high}
+    shut |= {gap for pair in pairs for gap in pair if (set(pair) - {gap}) & set(chosen)}
+    asked = [gap for gap in sorted(set(rows)) if gap not in shut]
+    return [gap for gap, _ in cases] == asked and all(
+        wait_paper_holds(code, pairs, count, case, chosen + (gap,)) for gap, case in cases)
+
+
 MACHINES = [
     (Make("calc", 2), Make("slow", 5), Copy("move", 4), Give("send"), Jump("go")),
     (Make("one", 1), Copy("keep", 1), Copy("move", 3), Give("send"), Jump("go")),
@@ -241,6 +421,32 @@ def random_code(chance, most_rows=6):
             group = chance.sample(code.registers, chance.randint(2, len(code.registers)))
             return Code.of(machine, rows, alike=[group])
         return code
+
+
+def random_tied(chance, most_rows=8):
+    """A code whose registers begin alike, with copies that land late, in which bad pairs are not rare."""
+    while True:
+        machine = Machine(Copy("quick", chance.randint(1, 2)), Copy("move", chance.randint(3, 6)), Copy("far", 6),
+                          Make("calc", chance.randint(1, 3)), Give("send"), Jump("go"), late=chance.choice([0, 0, 1]))
+        registers = "abc"[:chance.randint(2, 3)]
+        size = chance.randint(4, most_rows)
+        rows = [tuple(tied_operation(chance, size, registers) for _ in range(chance.choice([0, 1, 1, 1, 2])))
+                for _ in range(size)]
+        try:
+            code = Code.of(machine, rows)
+        except InvalidCode:
+            continue
+        return Code.of(machine, rows, alike=[code.registers] if len(code.registers) > 1 else [])
+
+
+def tied_operation(chance, size, registers):
+    name = chance.choice(["quick", "move", "far", "calc", "calc", "send", "send", "go"])
+    source = chance.choice(registers)
+    if name == "send":
+        return (name, None, (source,), None)
+    if name == "go":
+        return (name, None, (source,), chance.choice([0, chance.randint(0, size)]))
+    return (name, chance.choice(registers), () if name == "calc" else (source,), None)
 
 
 def random_codes(seed, many, most_rows=6):

@@ -13,7 +13,7 @@ BUILTINS = {
     "len", "range", "enumerate", "zip", "min", "max", "sum", "abs", "sorted", "reversed", "int", "str", "bool", "list",
     "tuple", "dict", "set", "isinstance", "ord", "repr", "any", "all", "divmod", "iter", "next", "map", "ValueError",
     "TypeError", "KeyError", "IndexError", "LookupError", "OverflowError", "RuntimeError", "NotImplemented",
-    "classmethod", "staticmethod", "property"}
+    "classmethod", "staticmethod", "property", "super"}
 DUNDERS = {"__init__", "__eq__", "__repr__", "__str__", "__len__", "__iter__", "__contains__", "__getitem__", "__enter__",
            "__exit__"}
 BARRED = {"register", "mro", "elements", "open", "input", "law", "version_info", "with_traceback", "add_note"}
@@ -28,7 +28,11 @@ INTERFACE = {
     "codes": ["Code"],
     "ways": ["is_way", "ways", "way_to", "is_point", "points", "points_after", "points_before"],
     "landings": ["clash", "landings", "writer"],
+    "values": ["value", "handed", "first_change"],
+    "player": ["Player"],
     "alike": ["names", "stands_for", "name_before", "alike", "classes"],
+    "alikecheck": ["shows_alike", "shows_unlike"],
+    "judge": ["differences", "heard", "judge", "bad_gaps", "bad_pairs"],
 }
 
 
@@ -233,6 +237,37 @@ class LanguageTest(unittest.TestCase):
             found = [node.name for node in tree_of(PACKAGE / f"{module}.py").body if hasattr(node, "name")]
             for name in names:
                 self.assertIn(name, found, module)
+
+    def test_module_level_values_are_plain(self):
+        for path in FILES:
+            for node in tree_of(path).body:
+                if isinstance(node, ast.Assign):
+                    ast.literal_eval(node.value)
+
+    def test_methods_and_attributes_have_names_of_their_own(self):
+        methods, attributes = {}, {}
+        for _, held in walk_all(ast.ClassDef):
+            for method in [node for node in held.body if isinstance(node, ast.FunctionDef)]:
+                methods.setdefault(method.name, set()).add(held.name)
+                for node in ast.walk(method):
+                    if isinstance(node, ast.Attribute) and isinstance(node.ctx, ast.Store):
+                        attributes.setdefault(node.attr, set()).add(held.name)
+        # The most of a player is a property, and no class of the package stores it but the error.
+        self.assertEqual(methods.pop("most") & attributes["most"], set())
+        self.assertEqual(set(methods) & set(attributes), set())
+
+    def test_no_method_is_read_off_a_class(self):
+        classes = {node.name for _, node in walk_all(ast.ClassDef)}
+        for name, node in walk_all(ast.Attribute):
+            if isinstance(node.value, ast.Name) and node.value.id in classes:
+                self.assertTrue(node.attr.isupper(), (name, node.attr))
+
+    def test_what_stands_in_an_exit(self):
+        for name, function in walk_all(ast.FunctionDef):
+            if function.name == "__exit__":
+                for node in function.body:
+                    self.assertIsInstance(node, ast.Assign)
+                    self.assertTrue(place_of(node.targets[0]) is not None and place_of(node.value) is not None, name)
 
     def test_what_a_loop_walks_is_not_changed_in_it(self):
         for name, function in walk_all(ast.FunctionDef):
