@@ -33,6 +33,10 @@ INTERFACE = {
     "alike": ["names", "stands_for", "name_before", "alike", "classes"],
     "alikecheck": ["shows_alike", "shows_unlike"],
     "judge": ["differences", "heard", "judge", "bad_gaps", "bad_pairs"],
+    "judgecheck": ["shows_change", "shows_open"],
+    "shut": ["least_shut"],
+    "waiting": ["shortest_wait", "longest_wait"],
+    "casecheck": ["shows_least", "shows_wait", "shows_cover"],
 }
 
 
