@@ -167,18 +167,27 @@ def was(code, point, name):
 
 def before(code, point, known):
     """The points that this one is after, among the known ones."""
-    return [each for each in known if each[-1] < len(code.rows)
-            and any((each + (row,))[-reach(code) - 1:] == point for row in next_rows(code, each[-1]))]
+    return befores(code, known).get(point, [])
+
+
+def befores(code, known):
+    """For each known point, or what comes after one, the known points before it."""
+    found = {point: [] for point in known}
+    for point in known:
+        for later in after(code, point):
+            found.setdefault(later, []).append(point)
+    return found
 
 
 def holds(code, table, known):
     """Whether each tuple of a table of alikes holds ([13])."""
-    return all(tuple_holds(code, table, known, each) for each in table)
+    table, leading = set(table), befores(code, known)
+    return all(tuple_holds(code, table, leading, each) for each in table)
 
 
-def tuple_holds(code, table, known, each):
+def tuple_holds(code, table, leading, each):
     point, one, other = each
-    if point not in known or not one < other:
+    if point not in leading or not one < other:
         return False
     if one not in names(code, point) or other not in names(code, point):
         return False
@@ -190,7 +199,7 @@ def tuple_holds(code, table, known, each):
     if first is None or second is None:
         return False
     return first == second or all((p, min(first, second), max(first, second)) in table
-                                  for p in before(code, point, known))
+                                  for p in leading[point])
 
 
 def held_gaps(code):

@@ -1,3 +1,4 @@
+import sys
 import unittest
 
 from latelands.alike import alike, classes, name_before, names, stands_for
@@ -6,7 +7,7 @@ from latelands.errors import Clash, NoName, NoPoint, TooMany
 from latelands.landings import clash
 from latelands.ways import is_way, points, points_after, points_before
 from tests import oracle
-from tests.helpers import A, A_TEXT, D, GOALS_800, GOALS_801, L, M, clashing, code_of, jumping, odd_values
+from tests.helpers import A, A_TEXT, D, GOALS_800, GOALS_801, L, M, clashing, code_of, jumping, odd_values, slow_code
 
 P = (0, 1, 2, 3)
 
@@ -262,6 +263,67 @@ class AlikeTest(unittest.TestCase):
         for point in list(points(L))[::40]:
             for name in names(L, point):
                 self.told(L, point, name, held("s"))
+
+
+class SlowTest(unittest.TestCase):
+    """A code with many points, of which the same is asked again and again."""
+
+    def test_the_answers(self):
+        code = slow_code()
+        known = list(points(code))
+        self.assertEqual(len(known), 671)
+        point = known[335]
+        # Ahead of other questions, behind them, and of another code that is equal.
+        told = [alike(each, point, held("r"), held("s")) for each in (code, code, slow_code())]
+        self.assertEqual(told[0], told[1])
+        self.assertEqual(told[0], told[2])
+        kind, table = told[0]
+        self.assertEqual((kind, list(table)), ("alike", sorted(set(table))))
+        self.assertIn((point, held("r"), held("s")), table)
+        self.assertTrue(oracle.holds(code, table, known))
+        told = [alike(each, point, held("c"), held("s")) for each in (code, code, slow_code())]
+        self.assertEqual(told, [told[0]] * 3)
+        kind, way = told[0]
+        self.assertEqual(kind, "unlike")
+        self.assertTrue(is_way(code, way))
+        self.assertIn(point, oracle.points_of_way(code, way))
+        self.assertNotEqual(oracle.value(code, way, held("c")), oracle.value(code, way, held("s")))
+        self.assertEqual(len(way), len(code.reached[point[0]]) + len(point) - 2)
+
+    def test_all_points(self):
+        code = slow_code()
+        known = list(points(code))
+        for point in known[::60]:
+            for one in names(code, point):
+                for other in names(code, point):
+                    kind, paper = alike(code, point, one, other)
+                    if kind == "unlike":
+                        self.assertTrue(is_way(code, paper) and point in oracle.points_of_way(code, paper))
+                        self.assertNotEqual(oracle.value(code, paper, one), oracle.value(code, paper, other))
+                    elif one < other:
+                        self.assertIn((point, one, other), paper)
+        for point in known[::200]:
+            kind, table = alike(code, point, held("t"), held("u"))
+            self.assertTrue(kind == "alike" and oracle.holds(code, table, known))
+
+    def test_what_was_found_is_not_found_anew(self):
+        code = slow_code()
+        point = list(points(code))[335]
+        for one, calls in ((held("r"), 25000), (held("c"), 600)):
+            first = self.calls_of(lambda: alike(code, point, one, held("s")))
+            again = self.calls_of(lambda: alike(code, point, one, held("s")))
+            self.assertLess(again, calls)
+            self.assertLessEqual(again, first)
+
+    def calls_of(self, ask):
+        """How many functions are called to answer: unlike the time it is the same on each machine."""
+        seen = []
+        sys.setprofile(lambda frame, event, arg: seen.append(event))
+        try:
+            ask()
+        finally:
+            sys.setprofile(None)
+        return len([event for event in seen if event in ("call", "c_call")])
 
 
 if __name__ == "__main__":
