@@ -3,7 +3,7 @@
 from latelands.atlas import atlas_of
 from latelands.errors import NoPoint
 from latelands.landings import refuse_clash
-from latelands.levels import levels_of
+from latelands.levels import is_known_unlike, levels_of
 from latelands.naming import check_name, name_was, names_at, standing
 from latelands.ways import check_point, following_points
 
@@ -44,11 +44,11 @@ def alike(code, point, one, other):
     if one == other:
         return "alike", ()
     atlas = atlas_of(code)
-    levels = levels_of(code)
     pair = atlas.pair(point, one, other)
-    if levels.rows_to(pair) is None:
-        return "alike", atlas.told(atlas.closed([pair]))
-    return "unlike", levels.way_to(code, pair)
+    pairs = None if is_known_unlike(code, pair) else atlas.closed([pair])
+    if pairs is None:
+        return "unlike", levels_of(code).way_to(code, pair)
+    return "alike", atlas.told(pairs)
 
 
 def classes(code, point):

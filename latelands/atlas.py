@@ -38,9 +38,10 @@ class Atlas:
 
     Attributes: `spots`, the tuple of the points; `spot_of`, the dict from a point to its number;
     `after` and `before`, for each point the lists of the numbers of the points after it and before
-    it; `name_of` and `number_of`, the dicts between the numbers of names and names; `was`, for each
-    point a dict from the names at it to what they were; `landing`, for each point a dict from the
-    registers to which a write lands just there to that write, a name.
+    it; `name_of` and `number_of`, the dicts between the numbers of names and names; `holders`, the
+    list of the pairs (number of the name, register) of the names ("in", r); `was`, for each point a
+    dict from the names at it to what they were; `landing`, for each point a dict from the registers
+    to which a write lands just there to that write, a name.
 
     What a name was is the number of a name, or one less than 0 if it is new: names that were the
     same have the same number, also if they are new. At the point (0,) all names are new in this
@@ -54,6 +55,7 @@ class Atlas:
         self.before = befores(self.after)
         self.name_of = numbered_names(code)
         self.number_of = {self.name_of[number]: number for number in self.name_of}
+        self.holders = [(self.number_of[("in", name)], name) for name in code.registers]
         self.landing = [landings_at(code, point) for point in self.spots]
         self.was = [self.was_at(code, spot) for spot in range(len(self.spots))]
 
@@ -62,20 +64,21 @@ class Atlas:
         point = self.spots[spot]
         if point == (0,):
             return self.was_at_first(code)
-        was = {self.number_of[("in", name)]: self.number_of[("in", name)] for name in code.registers}
+        was = {}
+        # In ascending order of the names.
+        for index, _, _, copied in code.writes[point[-2]]:
+            was[by_number(1, index)] = -1 - index if copied is None else self.number_of[("in", copied)]
         for back in range(2, len(point)):
             for index, _, _, _ in code.writes[point[-1 - back]]:
                 was[by_number(back, index)] = by_number(back - 1, index)
-        for index, _, _, copied in code.writes[point[-2]]:
-            was[by_number(1, index)] = -1 - index if copied is None else self.number_of[("in", copied)]
-        for name in self.landing[spot]:
-            was[self.number_of[("in", name)]] = was[self.landing[spot][name]]
-        return {number: was[number] for number in sorted(list(was))}
+        landing = self.landing[spot]
+        for number, name in self.holders:
+            was[number] = was[landing[name]] if name in landing else number
+        return was
 
     def was_at_first(self, code):
         """The same at the point (0,)."""
-        firsts = {name: code.entry(name)[1] for name in code.registers}
-        return {self.number_of[("in", name)]: -self.number_of[("in", firsts[name])] for name in code.registers}
+        return {number: -self.number_of[("in", code.entry(name)[1])] for number, name in self.holders}
 
     def pair(self, point, one, other):
         """The number of the pair of two names at a point."""
@@ -95,7 +98,7 @@ class Atlas:
         return [before * PAIRS + names for before in self.before[spot]]
 
     def closed(self, pairs):
-        """The ascending list of these pairs and of all that they were; none of them may be unlike."""
+        """The ascending list of these pairs and of all that they were, or None if one of them is unlike."""
         found = {pair: True for pair in pairs}
         left = list(found)
         # As `earlier` tells, but written out: this is done for very many pairs.
@@ -107,6 +110,8 @@ class Atlas:
             other = was[pair % NAMES]
             if one == other:
                 continue
+            if one < 0 or other < 0:
+                return None
             names = one * NAMES + other if one < other else other * NAMES + one
             for before in self.before[spot]:
                 was_pair = before * PAIRS + names

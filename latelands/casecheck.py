@@ -132,7 +132,7 @@ def parts_of_wait(code, ties, count, chosen, paper):
     rows, cases = paper
     if not is_ring(code, chosen, rows) and not (is_wait(code, chosen, rows) and len(rows) == count):
         return None
-    asked = [gap for gap in sorted({row for row in rows}) if not is_shown_shut(code, ties, chosen, gap)]
+    asked = [gap for gap in sorted(set(rows)) if not is_shown_shut(code, ties, chosen, gap)]
     if not isinstance(cases, tuple) or len(cases) != len(asked):
         return None
     for gap, case in zip(asked, cases):

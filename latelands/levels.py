@@ -11,6 +11,11 @@ def levels_of(code):
     return code.memo["levels"]
 
 
+def is_known_unlike(code, pair):
+    """Whether the names of a pair are unlike by what was found before; no levels are made for this."""
+    return "levels" in code.memo and code.memo["levels"].rows_to(pair) is not None
+
+
 class Levels:
     """For each point the classes of names that are alike on the ways to it, by the rows of the ways.
 

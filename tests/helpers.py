@@ -1,8 +1,10 @@
 """The worked examples of DOC.md, and values that fit nowhere."""
 
 from latelands.codes import Code
+from latelands.errors import NoRow
 from latelands.kinds import Copy, Give, Jump, Kind, Make
 from latelands.machines import Machine
+from latelands.player import Player
 from latelands.ways import ways
 
 M_TEXT = "late 1\nwidth 2\nmake calc 2\nmake slow 5\ncopy move 5\ngive send\njump go"
@@ -31,6 +33,7 @@ def odd_values():
         (None,), [None], {"r": 1}, ((),), [[]], ("r",), ["r"], (True,), [True], nested(1, 20),
         tuple(range(2000)), {"late": {"r": [1, (2, None)]}}, Make("calc", 2), Kind("calc"), Give("send"),
         Copy("move", 5), Jump("go"), Machine(Give("send")), Code(Machine(Give("send")), ()),
+        Player(Code(Machine(Give("send")), ())), Player(Code(Machine(Give("send")), ())).trial(), NoRow(1),
     ]
 
 
@@ -79,6 +82,23 @@ ROUND = Code.read(Machine(Copy("two", 2), Copy("six", 6), Make("calc", 2), Make(
 def tied(*parts):
     """A code of such rows one behind another."""
     return Code.read(T, "alike r s\n" + " / ".join(parts).replace(" / ", "\n"))
+
+
+def tied_loop(many, turned=False):
+    """So many of the rows TWO, and behind them a loop in which one gap is a bad pair with itself and with others.
+
+    These others are greater gaps, or lesser ones in a turned loop.
+    """
+    machine = Machine(Copy("move", 4), Copy("hold", 2), Make("calc", 2), Copy("keep", 3), Copy("long", 6), Copy("quick", 1),
+                      Make("now", 1), Give("send"), Jump("go"))
+    first = 4 * many + 1
+    loop = (f"- / send r ; r = keep s ; go {first + 3} c / q = now / r = long s ; go {first} / r = keep q / "
+            f"q = quick s ; go {first}")
+    if turned:
+        first += 3
+        loop = (f"- / go {first} / r = keep q / q = quick s ; go {first} / send r ; r = keep s ; go {first - 2} c / "
+                f"q = now / r = long s ; go {first}")
+    return Code.read(machine, " / ".join(["alike q r s"] + [TWO] * many + [loop]).replace(" / ", "\n"))
 
 
 def straight(text):

@@ -160,9 +160,22 @@ class OpenTest(unittest.TestCase):
             self.assertIs(shows_open(code, (0, 1), (word, (), quiets[:at] + quiets[at + 1:])), False)
         for wrong in (((0, 1), "s"), ((0, 1, 2, 3, 4), "r"), ((0, 2), "r"), ((0, 1), ("r",)), ((0, 1),), ("r", (0, 1))):
             self.assertIs(shows_open(code, (0, 1), (word, (), quiets + (wrong,))), False)
-        # Some pairs more, and pairs at the end.
+        # A row that reads the register, though nothing is heard behind it. (It stands at the end of its way.)
         end = ((0, 1, 2, 3, 4, 5), "r")
+        self.assertIs(shows_open(code, (0, 1), (word, (), quiets + (((0, 1, 2, 3, 4), "r"), end))), False)
+        # Some pairs more, and pairs at the end.
         self.assertIs(shows_open(code, (0, 1), (word, (), quiets + (end, end))), True)
+
+    def test_quiets_round_a_loop(self):
+        # With a break the copy has landed ahead of the result for good, and nobody reads it in the loop.
+        code = straight("r = far s / - / r = calc / - / - / go 5 s")
+        word, alikes, quiets = judge(code, 1, 2)
+        self.assertEqual((word, alikes), ("open", ()))
+        self.assertIn(((5, 5, 5, 5, 5, 5), "r"), quiets)
+        self.assertTrue(oracle.open_holds(code, (1, 2), (word, (), quiets), list(points(code))))
+        self.assertIs(shows_open(code, (1, 2), (word, (), quiets)), True)
+        left = tuple(pair for pair in quiets if pair != ((5, 5, 5, 5, 5, 5), "r"))
+        self.assertIs(shows_open(code, (1, 2), (word, (), left)), False)
 
     def test_papers_that_are_spoilt(self):
         for code, gaps in ((A, (0, 1, 2)), (D, (0, 2)), (tied(TWO), (0, 1, 3))):

@@ -12,7 +12,8 @@ from latelands.shut import least_shut
 from latelands.values import first_change
 from latelands.ways import points
 from tests import oracle
-from tests.helpers import (A, D, GOALS_800, GOALS_801, L, ROUND, THREE, TWO, clashing, jumping, straight, tied, wide)
+from tests.helpers import (A, D, GOALS_800, GOALS_801, L, ROUND, THREE, TWO, clashing, jumping, straight, tied, tied_loop,
+                           wide)
 
 
 def codes(seed, many):
@@ -97,6 +98,18 @@ class ShutTest(unittest.TestCase):
                 least_shut(code)
             self.assertEqual(caught.exception.most, 16)
 
+    def test_pairs_of_a_gap_that_must_be_shut_do_not_count(self):
+        code = tied_loop(7)
+        self.assertEqual(bad_pairs(code)[7:], ((29, 29), (29, 32), (29, 33), (32, 33)))
+        self.assertEqual(len({gap for pair in bad_pairs(code) for gap in pair}), 17)
+        self.assertEqual(self.hold(code), 9)
+        self.assertNotIn((29, 32), [gaps for gaps, _ in least_shut(code)[1][1]])
+        self.assertRaises(TooMany, least_shut, tied_loop(8))
+        code = tied_loop(7, turned=True)
+        self.assertEqual(bad_pairs(code)[7:], ((30, 31), (30, 32), (31, 32), (32, 32)))
+        self.assertEqual(self.hold(code), 9)
+        self.assertNotIn((30, 32), [gaps for gaps, _ in least_shut(code)[1][1]])
+
     def test_seventeen_gaps_that_are_bad_alone(self):
         code = straight(" / ".join(["r = slow ; send r"] * 20))
         self.assertEqual(len(bad_gaps(code)), 19)
@@ -117,9 +130,11 @@ class ShutTest(unittest.TestCase):
             with self.assertRaises(TooMany) as caught:
                 least_shut(code)
             self.assertEqual(caught.exception.most, 800)
-        with self.assertRaises(Clash) as caught:
-            least_shut(clashing(GOALS_800, 4))
-        self.assertEqual((caught.exception.way, caught.exception.name), clash(clashing(GOALS_800, 4)))
+        # A clash comes ahead of too many gaps in pairs.
+        for code in (clashing(GOALS_800, 4), tied(*[TWO] * 9, "r = move s", "-", "r = hold s")):
+            with self.assertRaises(Clash) as caught:
+                least_shut(code)
+            self.assertEqual((caught.exception.way, caught.exception.name), clash(code))
 
     def test_forty_rows_and_nearly_eight_hundred_points(self):
         for code in (wide(), wide(13)):

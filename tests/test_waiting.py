@@ -2,17 +2,17 @@ import itertools
 import random
 import unittest
 
-from latelands.casecheck import shows_wait
+from latelands.casecheck import is_wait_paper, shows_wait
 from latelands.errors import Clash, HeldGap, NoRow, TooMany
 from latelands.judge import bad_gaps, bad_pairs, judge
 from latelands.judgecheck import shows_change, shows_open
 from latelands.landings import clash
 from latelands.player import Player
-from latelands.waiting import longest_wait, shortest_wait
+from latelands.waiting import Search, longest_wait, shortest_wait
 from latelands.ways import points
 from tests import oracle
 from tests.helpers import (A, D, GOALS_800, GOALS_801, L, ROUND, THREE, TWO, clashing, code_of, jumping, odd_values, straight,
-                           tied, wide)
+                           tied, tied_loop, wide)
 
 
 def codes(seed, many):
@@ -117,9 +117,11 @@ class LongestTest(unittest.TestCase):
                 with self.assertRaises(TooMany) as caught:
                     ask(code)
                 self.assertEqual(caught.exception.most, 800)
-            with self.assertRaises(Clash) as caught:
-                ask(clashing(GOALS_800, 4))
-            self.assertEqual((caught.exception.way, caught.exception.name), clash(clashing(GOALS_800, 4)))
+            # A clash comes ahead of too many gaps in pairs.
+            for code in (clashing(GOALS_800, 4), tied(*[TWO] * 9, "r = move s", "-", "r = hold s")):
+                with self.assertRaises(Clash) as caught:
+                    ask(code)
+                self.assertEqual((caught.exception.way, caught.exception.name), clash(code))
 
     def test_what_is_passed_stays_as_it_was(self):
         gaps = [2, 0, 2]
@@ -187,6 +189,12 @@ class ShortestTest(unittest.TestCase):
                 shortest_wait(code)
             self.assertEqual(caught.exception.most, 16)
 
+    def test_pairs_of_a_gap_that_must_be_shut_do_not_count(self):
+        self.assertEqual(self.hold(tied_loop(7), tried=False), 2)
+        self.hold(tied_loop(1))
+        self.assertEqual(self.hold(tied_loop(7, turned=True), tried=False), 2)
+        self.assertRaises(TooMany, shortest_wait, tied_loop(8))
+
     def test_bad_gaps_alone(self):
         code = straight(" / ".join(["r = slow ; send r"] * 20))
         self.assertEqual(shortest_wait(code)[:2], (19, (0,)))
@@ -200,6 +208,74 @@ class ShortestTest(unittest.TestCase):
         self.assertEqual(self.hold(wide(), tried=False), 0)
         self.assertEqual(self.hold(wide(13), tried=False), None)
         self.hold(tied(*[TWO] * 8, *["send r ; send s"] * 8), tried=False)
+
+
+class SearchTest(unittest.TestCase):
+    """The search held against all sets of gaps, with gaps tied together that need not be a bad pair of the code."""
+
+    def test_any_ties(self):
+        chance = random.Random(85)
+        kinds = []
+        for _ in range(1200):
+            size = chance.randint(2, 8)
+            jumps = chance.choice([0.2, 0.5, 0.9])
+            code = code_of(" / ".join(f"go {chance.randint(0, size)} c" if chance.random() < jumps else "-"
+                                      for _ in range(size)))
+            pairs = [(low, high) for low in range(size) for high in range(low, size) if chance.random() < 0.2]
+            kinds.append(self.hold(code, pairs))
+        self.assertGreater(kinds.count((None, True)), 20)
+        self.assertGreater(kinds.count((None, False)), 20)
+        self.assertGreater(len([count for count, cases in kinds if count and cases]), 100)
+
+    def hold(self, code, pairs):
+        search = Search(code)
+        shut = {low for low, high in pairs if low == high}
+        tied_gaps = [pair for pair in pairs if not shut & set(pair)]
+        search.ties = {gap: tuple(other for pair in tied_gaps for other in pair if gap in pair and other != gap)
+                       for gap in code.gaps if gap not in shut}
+        free = [some for many in range(len(code) + 1) for some in itertools.combinations(search.ties, many)
+                if not any(set(pair) <= set(some) for pair in pairs)]
+        counts = [oracle.longest_wait(code, some) for some in free]
+        count, gaps = search.least()
+        self.assertEqual(count, min([each for each in counts if each is not None], default=None))
+        self.assertIn(gaps, free)
+        self.assertEqual(oracle.longest_wait(code, gaps), count)
+        if count == 0:
+            return count, False
+        paper = search.paper((), count)
+        shown = [(gap, gap) for gap in shut] + tied_gaps
+        self.assertTrue(oracle.wait_paper_holds(code, shown, count, paper))
+        self.assertIs(is_wait_paper(code, shown, count, paper), True)
+        if tied_gaps:
+            self.assertIs(is_wait_paper(code, shown[:-1], count, paper),
+                          oracle.wait_paper_holds(code, shown[:-1], count, paper))
+        return count, len(paper[1]) > 0
+
+    def test_papers_stay_small(self):
+        chance = random.Random(86)
+        for _ in range(40):
+            code = code_of(" / ".join(f"go {chance.randint(0, 30)} c" if chance.random() < 0.5 else "-" for _ in range(30)))
+            gaps = chance.sample(range(30), 16)
+            pairs = [tuple(sorted(gaps[at:at + 2])) for at in range(0, 16, 2)] + [tuple(sorted(gaps[7:9]))]
+            search = Search(code)
+            search.ties = {gap: tuple(other for pair in pairs for other in pair if gap in pair and other != gap)
+                           for gap in range(30)}
+            count = search.least()[0]
+            if count != 0:
+                paper = search.paper((), count)
+                self.assertTrue(oracle.wait_paper_holds(code, pairs, count, paper))
+                self.assertLess(repr(paper).count("(("), 1000)
+
+    def test_papers_do_not_branch_where_they_need_not(self):
+        # Of two rings the one of which no gap can be open is told.
+        code = code_of("go 3 c / go 1 c / go 0 / go 3 c / -")
+        search = Search(code)
+        search.ties = {gap: {0: (2,), 2: (0,)}.get(gap, ()) for gap in (0, 1, 2, 4)}
+        self.assertEqual(search.paper((), None), ((3,), ()))
+        # A gap of which all ties are shut can be open, so it is in no case.
+        search = Search(code)
+        search.ties = {0: (), 1: (3,), 2: (), 3: (1,), 4: ()}
+        self.assertEqual(search.paper((), None), ((1,), ((1, ((3,), ())),)))
 
 
 if __name__ == "__main__":
