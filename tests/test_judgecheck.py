@@ -8,7 +8,7 @@ from latelands.judgecheck import shows_change, shows_open
 from latelands.landings import clash
 from latelands.ways import points
 from tests import oracle
-from tests.helpers import (A, D, GOALS_800, GOALS_801, L, ROUND, TWO, clashing, code_of, jumping, nested, odd_values, spoilt,
+from tests.helpers import (A, D, GOALS_800, GOALS_801, L, ROUND, TWO, clashing, jumping, nested, odd_values, spoilt,
                            straight, tied, twisted, wide)
 
 P = (0, 1, 2, 3)
