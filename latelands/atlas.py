@@ -7,13 +7,17 @@ pairs are in the order of the tuples (point, one, other) that they stand for.
 
 from latelands.ways import following_points, list_points
 
-# As many indexes as operations in a row can have, and more numbers than there are names at a point.
+# As many indexes as operations in a row can have.
 INDEXES = 3
-NAMES = 32
-# As many numbers as two names have together: NAMES times NAMES.
-PAIRS = 1024
 # The number of each ("by", k, j) is less, as k is at most 6.
 FIRST_IN = 21
+# More numbers than there are names at a point. Where a second code is held beside a code, the names of
+# the second one have these numbers more.
+ASIDE = 32
+# As many numbers as there are for the names of two codes.
+NAMES = 64
+# As many numbers as two names have together: NAMES times NAMES.
+PAIRS = 4096
 
 
 def by_number(back, index):
@@ -33,19 +37,61 @@ def atlas_of(code):
     return code.memo["atlas"]
 
 
-class Atlas:
+class Field:
+    """Places, called spots, at which names were names at the spots before; the classes below are such.
+
+    They have the attributes `before`, for each spot the list of the numbers of the spots before it, and
+    `was`, for each spot a dict from the numbers of the names at it to what they were: the number of a
+    name, or one less than 0 if it is new. Names that were the same have the same number, also if they
+    are new.
+    """
+
+    def earlier(self, pair):
+        """The pairs that these names were, none if they are alike here, or None if unlike here."""
+        spot = pair // PAIRS
+        was = self.was[spot]
+        one = was[pair // NAMES % NAMES]
+        other = was[pair % NAMES]
+        if one == other:
+            return []
+        if one < 0 or other < 0:
+            return None
+        names = pair_of(0, one, other)
+        return [before * PAIRS + names for before in self.before[spot]]
+
+    def closed(self, pairs):
+        """The ascending list of these pairs and of all that they were, or None if one of them is unlike."""
+        found = {pair: True for pair in pairs}
+        left = list(found)
+        # As `earlier` tells, but written out: this is done for very many pairs.
+        while len(left) > 0:
+            pair = left.pop()
+            spot = pair // PAIRS
+            was = self.was[spot]
+            one = was[pair // NAMES % NAMES]
+            other = was[pair % NAMES]
+            if one == other:
+                continue
+            if one < 0 or other < 0:
+                return None
+            names = one * NAMES + other if one < other else other * NAMES + one
+            for before in self.before[spot]:
+                was_pair = before * PAIRS + names
+                if was_pair not in found:
+                    found[was_pair] = True
+                    left.append(was_pair)
+        return sorted(list(found))
+
+
+class Atlas(Field):
     """What is asked of the points of a code again and again.
 
     Attributes: `spots`, the tuple of the points; `spot_of`, the dict from a point to its number;
     `after` and `before`, for each point the lists of the numbers of the points after it and before
     it; `name_of` and `number_of`, the dicts between the numbers of names and names; `holders`, the
-    list of the pairs (number of the name, register) of the names ("in", r); `was`, for each point a
-    dict from the names at it to what they were; `landing`, for each point a dict from the registers
-    to which a write lands just there to that write, a name.
-
-    What a name was is the number of a name, or one less than 0 if it is new: names that were the
-    same have the same number, also if they are new. At the point (0,) all names are new in this
-    sense, those of one group the same.
+    list of the pairs (number of the name, register) of the names ("in", r); `was`, as in a field;
+    `landing`, for each point a dict from the registers to which a write lands just there to that
+    write, a name. At the point (0,) all names are new, those of one group the same.
     """
 
     def __init__(self, code):
@@ -83,42 +129,6 @@ class Atlas:
     def pair(self, point, one, other):
         """The number of the pair of two names at a point."""
         return pair_of(self.spot_of[point], self.number_of[one], self.number_of[other])
-
-    def earlier(self, pair):
-        """The pairs that these names were, none if they are alike here, or None if unlike here."""
-        spot = pair // PAIRS
-        was = self.was[spot]
-        one = was[pair // NAMES % NAMES]
-        other = was[pair % NAMES]
-        if one == other:
-            return []
-        if one < 0 or other < 0:
-            return None
-        names = pair_of(0, one, other)
-        return [before * PAIRS + names for before in self.before[spot]]
-
-    def closed(self, pairs):
-        """The ascending list of these pairs and of all that they were, or None if one of them is unlike."""
-        found = {pair: True for pair in pairs}
-        left = list(found)
-        # As `earlier` tells, but written out: this is done for very many pairs.
-        while len(left) > 0:
-            pair = left.pop()
-            spot = pair // PAIRS
-            was = self.was[spot]
-            one = was[pair // NAMES % NAMES]
-            other = was[pair % NAMES]
-            if one == other:
-                continue
-            if one < 0 or other < 0:
-                return None
-            names = one * NAMES + other if one < other else other * NAMES + one
-            for before in self.before[spot]:
-                was_pair = before * PAIRS + names
-                if was_pair not in found:
-                    found[was_pair] = True
-                    left.append(was_pair)
-        return sorted(list(found))
 
     def told(self, pairs):
         """The tuple of the tuples (point, one, other) of these pairs."""

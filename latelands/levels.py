@@ -19,6 +19,8 @@ def is_known_unlike(code, pair):
 class Levels:
     """For each point the classes of names that are alike on the ways to it, by the rows of the ways.
 
+    The points are those of an atlas, or the spots of another field with `spots` and `after`.
+
     `history` has for each point the list of the pairs (rows, classes) with a number of rows and a
     dict from the names at the point to one name of their class: names are alike on all ways of so
     many rows and fewer, up to the next number in the list, exactly if they are of one class. The
@@ -63,16 +65,24 @@ class Levels:
                 return rows
         return None
 
-    def way_to(self, code, pair):
-        """A shortest way to the point of a pair of this code on which its names are unlike."""
-        behind = []
+    def trail_to(self, pair):
+        """The list of the numbers of the points over which a shortest way leads on which a pair's names are unlike.
+
+        The first one is the point at which they begin to be unlike, the last one is that of the pair.
+        """
+        trail = [pair // PAIRS]
         earlier = self.atlas.earlier(pair)
         while earlier is not None:
             rows = self.rows_to(pair) - 1
             pair = [each for each in earlier if self.rows_to(each) == rows][0]
-            behind.append(self.atlas.spots[pair // PAIRS][-1])
+            trail.append(pair // PAIRS)
             earlier = self.atlas.earlier(pair)
-        return shortest_way_to_point(code, self.atlas.spots[pair // PAIRS]) + tuple(behind[::-1])
+        return trail[::-1]
+
+    def way_to(self, code, pair):
+        """A shortest way to the point of a pair of this code on which its names are unlike."""
+        trail = [self.atlas.spots[spot] for spot in self.trail_to(pair)]
+        return shortest_way_to_point(code, trail[0]) + tuple([point[-1] for point in trail[:-1]])
 
 
 def classes_at(was, known):

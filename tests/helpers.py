@@ -20,6 +20,20 @@ L_TEXT = ("alike q r s\nsend r ; r = keep s ; go 3 c\nq = calc\nr = move s ; go 
 L = Code.read(N, L_TEXT)
 
 
+def hasty(code):
+    """The same rows for a machine whose results all land after one step."""
+    kinds = [Make(kind.name, 1) if kind.family == "make" else Copy(kind.name, 1) if kind.family == "copy" else kind
+             for kind in code.machine.kinds]
+    return Code.of(Machine(*kinds, late=code.machine.late, width=code.machine.width), code.rows, alike=code.alike)
+
+
+def put_ahead(code, many):
+    """The code with so many rows without operations ahead of it, and which row each row stands for."""
+    rows = [tuple(operation[:3] + (None if operation[3] is None else operation[3] + many,) for operation in row)
+            for row in code.rows]
+    return (Code.of(code.machine, [()] * many + rows, alike=code.alike), (None,) * many + tuple(range(len(rows))))
+
+
 def nested(value, deep):
     for _ in range(deep):
         value = (value,)

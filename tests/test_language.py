@@ -37,6 +37,10 @@ INTERFACE = {
     "shut": ["least_shut"],
     "waiting": ["shortest_wait", "longest_wait"],
     "casecheck": ["shows_least", "shows_wait", "shows_cover"],
+    "sides": ["same"],
+    "sidecheck": ["shows_same", "shows_apart"],
+    "webs": ["seen", "webs", "stretch", "conflicts"],
+    "registers": ["fewest", "rename"],
 }
 
 
@@ -259,6 +263,16 @@ class LanguageTest(unittest.TestCase):
         # The most of a player is a property, and no class of the package stores it but the error.
         self.assertEqual(methods.pop("most") & attributes["most"], set())
         self.assertEqual(set(methods) & set(attributes), set())
+
+    def test_methods_are_called_where_they_stand(self):
+        methods = {node.name for _, held in walk_all(ast.ClassDef) for node in held.body
+                   if isinstance(node, ast.FunctionDef)} - {"most"}
+        for path in FILES:
+            tree = tree_of(path)
+            called = [node.func for node in ast.walk(tree) if isinstance(node, ast.Call)]
+            for node in ast.walk(tree):
+                if isinstance(node, ast.Attribute) and node.attr in (methods | METHODS) - {"index", "count"}:
+                    self.assertIn(node, called, (path, node.attr))
 
     def test_no_method_is_read_off_a_class(self):
         classes = {node.name for _, node in walk_all(ast.ClassDef)}
