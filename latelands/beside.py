@@ -47,10 +47,10 @@ def can_stand(code, other, at, value):
     row = other.rows[at]
     if value is None:
         return len(row) == 0 or (len(row) == 1 and jump_of(row) is not None and len(row[0][2]) == 0)
-    return within(value, 0, len(code) - 1) and signs_of(code, code.rows[value]) == signs_of(other, row)
+    return within(value, 0, len(code) - 1) and sorts_of(code, code.rows[value]) == sorts_of(other, row)
 
 
-def signs_of(code, row):
+def sorts_of(code, row):
     """For each operation of a row its sort and the number of its sources; rows with the same ones are akin."""
     return [(code.machine.kind(name).family, len(sources)) for name, _, sources, _ in row]
 

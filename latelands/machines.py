@@ -4,6 +4,8 @@ from latelands.checks import within
 from latelands.errors import InvalidMachine, InvalidText, NoName
 from latelands.kinds import BARRED_NAME, Copy, Give, Jump, Kind, Make, is_name
 
+MOST_LATE = 2
+MOST_WIDTH = 3
 HEADS = (("late", ("0", "1", "2")), ("width", ("1", "2", "3")))
 DELAYS = ("1", "2", "3", "4", "5", "6")
 DELAYED_SORTS = ("make", "copy")
@@ -21,10 +23,8 @@ class Machine:
             raise InvalidMachine("kinds")
         if len({kind.name for kind in kinds}) < len(kinds):
             raise InvalidMachine("name")
-        if not within(late, 0, 2):
-            raise InvalidMachine("late")
-        if not within(width, 1, 3):
-            raise InvalidMachine("width")
+        check_late(late)
+        check_width(width)
         self.kinds = kinds
         self.late = late
         self.width = width
@@ -64,6 +64,16 @@ class Machine:
     def __str__(self):
         lines = [kind_line(kind) for kind in self.kinds]
         return "\n".join([f"late {self.late}", f"width {self.width}", *lines])
+
+
+def check_late(late):
+    if not within(late, 0, MOST_LATE):
+        raise InvalidMachine("late")
+
+
+def check_width(width):
+    if not within(width, 1, MOST_WIDTH):
+        raise InvalidMachine("width")
 
 
 def are_kinds(values):

@@ -41,6 +41,20 @@ INTERFACE = {
     "sidecheck": ["shows_same", "shows_apart"],
     "webs": ["seen", "webs", "stretch", "conflicts"],
     "registers": ["fewest", "rename"],
+    "registercheck": ["shows_fewest"],
+    "opening": ["opened"],
+    "mending": ["mended"],
+    "listing": ["listing", "chart"],
+    "desk": ["Desk"],
+}
+# The methods that the interface lists for classes.
+CLASSES = {
+    "machines": ("Machine", {"of", "kind", "__contains__", "__len__", "__eq__", "__repr__", "__str__", "read"}),
+    "codes": ("Code", {"of", "next_rows", "rows_before", "delay_of", "entry", "with_row", "__len__", "__getitem__", "__eq__",
+                       "__repr__", "__str__", "read"}),
+    "player": ("Player", {"set_most", "go", "break_in", "sees", "undo", "trial", "on_trial", "twin", "__eq__", "__len__",
+                          "__repr__"}),
+    "desk": ("Desk", {"say", "say_all"}),
 }
 
 
@@ -246,10 +260,24 @@ class LanguageTest(unittest.TestCase):
             for name in names:
                 self.assertIn(name, found, module)
 
+    def test_the_methods_stand_in_their_classes(self):
+        for module, (name, methods) in CLASSES.items():
+            [held] = [node for node in tree_of(PACKAGE / f"{module}.py").body if getattr(node, "name", None) == name]
+            self.assertLessEqual(methods, {node.name for node in held.body if isinstance(node, ast.FunctionDef)})
+
     def test_module_level_values_are_plain(self):
         for path in FILES:
+            functions = []
             for node in tree_of(path).body:
-                if isinstance(node, ast.Assign):
+                if isinstance(node, ast.FunctionDef):
+                    functions.append(node.name)
+                if isinstance(node, ast.Assign) and isinstance(node.value, ast.Dict):
+                    # A table may also have functions that are defined above it.
+                    values = [value for value in node.value.values
+                              if not (isinstance(value, ast.Name) and value.id in functions)]
+                    for value in values + node.value.keys:
+                        ast.literal_eval(value)
+                elif isinstance(node, ast.Assign):
                     ast.literal_eval(node.value)
 
     def test_methods_and_attributes_have_names_of_their_own(self):

@@ -2,12 +2,11 @@ import random
 import unittest
 
 from latelands.codes import Code
-from latelands.landings import clash
 from latelands.machines import Machine
 from latelands.sidecheck import shows_apart, shows_same
 from latelands.sides import same
 from tests import oracle, oracle_sides
-from tests.helpers import A, D, L, M, nested, odd_values, spoilt, twisted, wide
+from tests.helpers import A, D, L, nested, odd_values, spoilt, twisted, wide
 from tests.test_sides import plain, read, sides
 
 
