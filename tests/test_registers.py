@@ -166,6 +166,12 @@ class NumberingTest(unittest.TestCase):
             apart = self.apart(16, pairs)
             most = max(fewest_numbers(apart))
             self.assertLess(size(numbers_paper(apart, needed_things(apart, most), {}, most)), 200)
+        # A paper leaves out what needs fewer numbers anyway, also where much is apart from one thing.
+        pairs = [(0, other) for other in range(1, 10)] + [(10, other) for other in range(11, 16)]
+        apart = self.apart(16, pairs + [(11 + at, 11 + (at + 1) % 5) for at in range(5)])
+        self.assertEqual(max(fewest_numbers(apart)), 3)
+        self.assertEqual(sorted(needed_things(apart, 3)), list(range(10, 16)))
+        self.assertLess(size(numbers_paper(apart, needed_things(apart, 3), {}, 3)), 12)
         # No three of these are apart from one another, but three numbers are not enough.
         ring = [(at, (at + 1) % 5) for at in range(5)]
         pairs = ring + [pair for one, other in ring for pair in ((one, other + 5), (other, one + 5))]

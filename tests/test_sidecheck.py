@@ -133,6 +133,16 @@ class ShowsSameTest(unittest.TestCase):
             for some in (table, ()):
                 self.assertIs(shows_same(code, other, some), False)
 
+    def test_right_tables_of_codes_of_which_one_only_strays_or_only_lacks(self):
+        loop, straight_on = plain("- / go 0 r"), plain("- / go 2 r")
+        names = (("in", "r"), ("in", "r"))
+        table = (((0,), (0,)) + names, ((0, 1), (0, 1)) + names)
+        for code, other, word in ((loop, straight_on, "lacks"), (straight_on, loop, "strays")):
+            self.assertEqual(same(code, other)[0], word)
+            # Each two corresponding sources read the same, wherever both codes come.
+            self.assertTrue(oracle_sides.table_holds(code, other, (0, 1), own(code), table))
+            self.assertIs(shows_same(code, other, table), False)
+
     def test_values_that_are_no_tables(self):
         table = same(A, A)[1]
         for value in odd_values():
